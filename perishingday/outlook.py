@@ -40,6 +40,10 @@ def often_up_to(demand, number):
     return sum([often for wanted, often in demand if wanted <= number])
 
 
+def wanted_in_all(demand):
+    return sum([wanted * often for wanted, often in demand])
+
+
 def sold_in_all(demand, number):
     return sum([min(wanted, number) * often for wanted, often in demand])
 
@@ -55,6 +59,11 @@ def lost_in_all(demand, number):
 def gain_in_all(demand, number, cost, price, back):
     paid = cost * number * often_in_all(demand)
     return price * sold_in_all(demand, number) + back * left_in_all(demand, number) - paid
+
+
+def known_gain_in_all(demand, cost, price):
+    # Whoever knows what is wanted buys just that: all of it is sold, nothing is left.
+    return (price - cost) * wanted_in_all(demand)
 
 
 def best_number(demand, cost, price, back):
@@ -76,3 +85,12 @@ def critical_number(demand, cost, price, back):
     while often_up_to(demand, number) * (price - back) < needed:
         number += 1
     return number
+
+
+def never_more_often_met(demand, other):
+    """Whether for no number it comes more often in the demand than in the other that no more is wanted."""
+    # Both come equally often in all, and no more than 60 is ever wanted: beyond that they are alike.
+    for number in range(MOST_BOUGHT + 1):
+        if often_up_to(demand, number) > often_up_to(other, number):
+            return False
+    return True

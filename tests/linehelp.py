@@ -13,7 +13,6 @@ SIZES = {
     "share": 0, "sold": 2, "lost": 2, "upto": 2, "next": 2, "known": 1, "pool": 0, "fair": 2,
     "lend": 2, "dear": 2, "stronger": 0, "chances": 0, "mean": 1, "state": 0,
 }
-FIRST_STAGE = NAMES[:11]
 LARGEST = 4294967295
 
 
@@ -79,14 +78,19 @@ class Told:
         return [((x, y, x + y)[w], n) for x, y, n in self.rows]
 
     def looked_for(self, w, value):
-        return sum((Fraction(n * value(d), self.whole()) for d, n in self.wanted(w)), Fraction(0))
+        return Fraction(sum(n * value(d) for d, n in self.wanted(w)), self.whole())
 
     def gain_of(self, w, q):
         c, p, b = self.terms
         return self.looked_for(w, lambda d: p * d + b * (q - d) - c * q if d < q else p * q - c * q)
 
-    def refused(self, w, q=0):
-        if w not in (0, 1, 2) or q not in range(61):
+    def best_of(self, w):
+        """The best number, and the gain that is to be looked for with it."""
+        gains = [self.gain_of(w, q) for q in range(61)]
+        return gains.index(max(gains)), max(gains)
+
+    def refused(self, w=0, q=0, most=60):
+        if w not in (0, 1, 2) or q not in range(most + 1):
             return [-22]
         return [] if self.rows else [-6]
 
@@ -124,8 +128,8 @@ class Told:
     def do_best(self, w):
         if self.refused(w):
             return self.refused(w)
-        gains = [self.gain_of(w, q) for q in range(61)]
-        return [gains.index(max(gains))] + two(max(gains))
+        number, most = self.best_of(w)
+        return [number] + two(most)
 
     def do_critical(self, w):
         if self.refused(w):
@@ -152,6 +156,56 @@ class Told:
 
     def do_upto(self, w, q):
         return self.refused(w, q) or [sum(n for d, n in self.wanted(w) if d <= q), self.whole()]
+
+    def do_next(self, w, q):
+        c, p, b = self.terms
+        return self.refused(w, q, 59) or [0] + two(self.looked_for(w, lambda d: p - c if d > q else b - c))
+
+    def do_known(self, w):
+        if self.refused(w):
+            return self.refused(w)
+        c, p, _ = self.terms
+        had_one_known = self.looked_for(w, lambda d: p * d - c * d)
+        return [0] + two(had_one_known) + two(had_one_known - self.best_of(w)[1])
+
+    def do_pool(self):
+        if self.refused():
+            return self.refused()
+        (both, together), (here, by_here), (there, by_there) = (self.best_of(w) for w in (2, 0, 1))
+        return [both, here, there] + two(together - by_here - by_there)
+
+    def do_fair(self, q, r):
+        return self.refused(0, max(q, r)) or [0] + two(self.gain_of(0, q) + self.gain_of(1, r))
+
+    def do_lend(self, q, r):
+        if self.refused(0, max(q, r)):
+            return self.refused(0, max(q, r))
+        return [0] + two(self.gain_of(2, q + r)) + two(self.looked_for(2, lambda d: min(d, q + r)))
+
+    def do_dear(self, w, c):
+        _, p, b = self.terms
+        if w > 2 or not self.as_told(c, p, b):
+            return [-22]
+        if self.refused():
+            return self.refused()
+        other = Told()
+        other.terms, other.rows = (c, p, b), self.rows
+        return [other.best_of(w)[0], self.best_of(w)[0]]
+
+    def do_stronger(self):
+        if self.refused():
+            return self.refused()
+        here, there = ([sum(n for d, n in self.wanted(w) if d <= q) for q in range(61)] for w in (0, 1))
+        return [int(not any(x > y for x, y in zip(here, there))), int(not any(y > x for x, y in zip(here, there)))]
+
+    def do_chances(self):
+        return [len(self.rows)] + [number for row in self.rows for number in row]
+
+    def do_mean(self, w):
+        return self.refused(w) or [0] + two(self.looked_for(w, lambda d: d))
+
+    def do_state(self):
+        return [self.whole(), len(self.rows)] + list(self.terms)
 
 
 def told(*calls):

@@ -80,6 +80,8 @@ class Language(unittest.TestCase):
                     self.assertIn(node.id, BUILT_IN)
                 if isinstance(node, ast.Name):
                     self.assertRegex(node.id, r"^[A-Za-z]")
+                if isinstance(node, (ast.FunctionDef, ast.ClassDef)):
+                    self.assertNotIn(node.name, own)
                 if isinstance(node, ast.arg):
                     self.assertNotIn(node.arg, own)
                     self.assertIsNone(node.annotation)

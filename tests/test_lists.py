@@ -7,20 +7,28 @@ from linehelp import LARGEST, NAMES, SIZES, answers, ask, last, line, parted, to
 
 BEGUN = ("begin", 4, 10, 2)
 DAY = (BEGUN, ("chance", 3, 1, 2), ("chance", 5, 0, 1), ("chance", 0, 7, 3))
-ASKED = (("gain", 0, 4), ("best", 1), ("critical", 2), ("share",), ("sold", 2, 4), ("lost", 1, 2), ("upto", 0, 3))
+ASKED = (
+    ("gain", 0, 4), ("best", 1), ("critical", 2), ("share",), ("sold", 2, 4), ("lost", 1, 2), ("upto", 0, 3),
+    ("next", 1, 5), ("known", 2), ("pool",), ("fair", 4, 2), ("lend", 4, 2), ("dear", 0, 5), ("stronger",),
+    ("chances",), ("mean", 1), ("state",),
+)
 
 
 class Lists(unittest.TestCase):
 
-    def test_one_list_with_every_call_of_the_first_stage(self):
+    def test_one_list_with_every_call(self):
         numbers = [
             0, 4, 10, 2, 1, 3, 1, 2, 1, 5, 0, 1, 1, 0, 7, 3, 2, 5, 0, 3, 4, 10, 3, 3, 4, 10, 2,
             4, 0, 4, 5, 0, 6, 0, 7, 8, 0, 4, 9, 0, 1, 10, 0, 3,
+            11, 0, 2, 12, 0, 13, 14, 4, 0, 15, 4, 1, 16, 0, 10, 17, 18, 19, 0, 20,
         ]
-        # Without the 5 wanted once, here are 3 twice and 0 three times.
+        # Without the 5 wanted once, here are 3 twice and 0 three times, there 1 twice and 7 three times,
+        # together 4 twice and 7 three times. The best are 3 here, 18 of 5, 7 there, 114 of 5, and 7, 162 of 5.
         self.assertEqual(answers(numbers), [
             1, 0, 1, 2, 1, 3, 1, 6, 1, 5, 4, 0, 4, 10, 2, 4, 0, 4, 10, 3,
             3, 0, 8, 5, 3, 3, 18, 5, 3, 3, 5, 5, 3, 0, 3, 4, 5, 0, 6, 5, 14, 5, 3, 0, 4, 5, 2, 5, 5,
+            3, 0, 6, 5, 5, 0, 36, 5, 18, 5, 5, 7, 3, 7, 6, 1, 3, 0, 8, 5, 5, 0, 134, 5, 23, 5, 2, 0, 3, 2, 0, 1,
+            7, 2, 3, 1, 2, 0, 7, 3, 3, 0, 6, 5, 5, 5, 2, 4, 10, 2,
         ])
 
     def test_one_call(self):
@@ -28,7 +36,8 @@ class Lists(unittest.TestCase):
         self.assertEqual(answers([0, 0, 1, 0]), [1, 0])
 
     def test_whole_numbers_in_a_list(self):
-        given = answers(line(DAY + ASKED + (("gain", 3, 0), ("prices", 1, 2, 0), ("never", 3, 1))))
+        wrong = tuple((name,) + (LARGEST,) * SIZES[name] for name in NAMES)
+        given = answers(line(DAY + ASKED + wrong + (("prices", 1, 2, 0), ("never", 3, 1)) + ASKED))
         self.assertIs(type(given), list)
         self.assertEqual({type(number) for number in given}, {int})
 
@@ -72,6 +81,27 @@ class Lists(unittest.TestCase):
         self.assertEqual(len(parts), 400)
         self.assertEqual(parts[31:34], told(*calls[:34])[31:])
         self.assertEqual(parts[31:], parts[31:34] * 123)
+
+    def test_400_calls_that_take_the_most_work_on_30_rows(self):
+        day = [BEGUN] + [("chance", k, 29 - k, 1 + 33 * k) for k in range(30)]
+        for name in ("pool", "known", "dear", "stronger", "chances"):
+            with self.subTest(name=name):
+                calls = day + [(name,) + (2, 7)[:SIZES[name]]] * 369
+                parts = ask(*calls)
+                self.assertEqual(len(parts), 400)
+                self.assertEqual(parts[31:], told(*calls[:32])[31:] * 369)
+
+    def test_400_calls_of_all_kinds(self):
+        calls = (list(DAY) + [("never", 9, 9), ("prices", 4, 10, 2)] + list(ASKED)) * 18
+        calls = (calls + [("never", 3, 1), ("state",)] * 10)[:400]
+        self.assertEqual(len(calls), 400)
+        self.assertEqual({call[0] for call in calls}, set(NAMES))
+        numbers = line(calls)
+        before = list(numbers)
+        first = answers(numbers)
+        self.assertEqual(parted(first), told(*calls))
+        self.assertEqual(answers(numbers), first)
+        self.assertEqual(numbers, before)
 
     def test_1600_numbers(self):
         calls = [BEGUN] + [("chance", k % 31, k % 7, 1 + k) for k in range(30)]
